@@ -30,6 +30,20 @@ splitlines startswith strip update upper values zfill bit_length
 WORDS = re.compile(r"""\b(type|typing|typing_extensions|enum|Enum|IntEnum|StrEnum|Flag|IntFlag|Generic|Protocol|ABC
 |ABCMeta|namedtuple|NamedTuple|TypedDict|TYPE_CHECKING|abstractmethod)\b|dataclass|overload|contextmanager""", re.X)
 
+NOT_USED = set("""
+register mro elements open input version_info with_traceback add_note attrgetter breakpoint builtins compile copyright
+credits delattr dir eval exec exit gc getattr globals hasattr help id importlib license locals methodcaller os quit
+setattr super type vars sys __name__
+""".split())
+
+KEYWORDS = {
+    "sorted": {"key", "reverse"}, "min": {"key", "default"}, "max": {"key", "default"}, "sum": {"start"},
+    "enumerate": {"start"}, "zip": {"strict"}}
+
+# What is walked on the spot, and the calls that walk it as their first thing.
+WALKED = {"zip", "enumerate", "reversed", "range", "items", "keys", "values"}
+WALKERS = {"list", "tuple", "dict", "sorted", "sum", "any", "all", "enumerate", "zip", "min", "max", "join"}
+
 PYTHONS_OWN = {name for kind in (str, int, list, dict, set, bytes) for name in dir(kind)}
 
 
@@ -43,6 +57,22 @@ def trees():
 
 def nodes(*kinds):
     return [(name, node) for name, tree in trees() for node in ast.walk(tree) if isinstance(node, kinds)]
+
+
+def name_of(node):
+    """The name that a call calls, of a function or of a method."""
+    return node.func.id if isinstance(node.func, ast.Name) else node.func.attr
+
+
+def drawn_from():
+    return {f"midvalue.{name[:-3]}": {node.module for node in ast.walk(tree) if isinstance(node, ast.ImportFrom)}
+            for name, tree in trees()}
+
+
+def bound_at_top(tree):
+    names = [node.name for node in tree.body if isinstance(node, (ast.FunctionDef, ast.ClassDef))]
+    names += [part.asname or part.name for node in tree.body if isinstance(node, ast.ImportFrom) for part in node.names]
+    return names + [node.targets[0].id for node in tree.body if isinstance(node, ast.Assign)]
 
 
 def stored_values():
@@ -132,6 +162,81 @@ class Tree(unittest.TestCase):
             self.assertNotIn("%", str(node.value), (name, node.lineno))
 
 
+    def test_imports_run_in_no_circle(self):
+        left = drawn_from()
+        while left:
+            free = [name for name, modules in left.items() if not modules & set(left)]
+            self.assertTrue(free, left)
+            left = {name: modules for name, modules in left.items() if name not in free}
+
+    def test_imports_are_from_the_file_that_defines_the_name(self):
+        defined = {f"midvalue.{name[:-3]}": {node.name for node in tree.body if hasattr(node, "name")}
+                   for name, tree in trees()}
+        for name, node in nodes(ast.ImportFrom):
+            for part in node.names:
+                self.assertIn(part.name, defined[node.module], name)
+
+    def test_init_is_empty(self):
+        self.assertEqual((PACKAGE / "__init__.py").read_text(), "")
+
+    def test_the_top_holds_no_list_and_no_dict(self):
+        # Narrower than L15, which asks more of those that there are.
+        for name, tree in trees():
+            for node in tree.body:
+                if isinstance(node, ast.Assign):
+                    kinds = {part.__class__ for part in ast.walk(node.value)}
+                    self.assertLessEqual(kinds, {ast.Tuple, ast.Constant, ast.Load, ast.UnaryOp, ast.USub}, name)
+
+    def test_f_strings_hold_plain_names(self):
+        for name, node in nodes(ast.FormattedValue):
+            self.assertIsInstance(node.value, ast.Name, (name, node.lineno))
+            self.assertIsNone(node.format_spec, (name, node.lineno))
+            self.assertIn(node.conversion, (-1, ord("r")), (name, node.lineno))
+
+    def test_escapes(self):
+        for path in files():
+            for found in re.findall(r"\\.", path.read_text()):
+                self.assertIn(found[1], "nt\\\"'", path.name)
+
+    def test_errors_are_raised_on_the_spot_and_taken_by_name(self):
+        own = {node.name for name, node in nodes(ast.ClassDef)}
+        for name, node in nodes(ast.Raise):
+            self.assertIn(name_of(node.exc), own, (name, node.lineno))
+        for name, node in nodes(ast.ExceptHandler):
+            self.assertIn(node.type.id, own, (name, node.lineno))
+        for name, node in nodes(ast.Try):
+            self.assertEqual(node.finalbody, [], (name, node.lineno))
+
+    def test_walked_on_the_spot(self):
+        for name, tree in trees():
+            calls = [node for node in ast.walk(tree) if isinstance(node, ast.Call)]
+            spots = [node.iter for node in ast.walk(tree) if isinstance(node, (ast.For, ast.comprehension))]
+            spots += [node.args[0] for node in calls if name_of(node) in WALKERS and node.args]
+            spots += [part for node in calls if name_of(node) == "zip" for part in node.args]
+            for node in calls:
+                if name_of(node) in WALKED:
+                    self.assertIn(node, spots, (name, node.lineno))
+
+    def test_keywords(self):
+        for name, node in nodes(ast.Call):
+            used = {part.arg for part in node.keywords}
+            self.assertLessEqual(used, KEYWORDS.get(name_of(node), set()), (name, node.lineno))
+
+    def test_methods_are_called_where_they_stand(self):
+        known = METHODS | own_methods()
+        for name, tree in trees():
+            called = [node.func for node in ast.walk(tree) if isinstance(node, ast.Call)]
+            for node in ast.walk(tree):
+                if isinstance(node, ast.Attribute) and node.attr in known:
+                    self.assertIn(node, called, (name, node.lineno))
+
+    def test_init_gives_back_nothing(self):
+        for name, node in nodes(ast.FunctionDef):
+            if node.name == "__init__":
+                found = [part for part in ast.walk(node) if isinstance(part, ast.Return) and part.value]
+                self.assertEqual(found, [], name)
+
+
 class Names(unittest.TestCase):
     def test_bound_names_are_plain_and_not_pythons_own(self):
         bound = [(name, node.id) for name, node in nodes(ast.Name) if isinstance(node.ctx, ast.Store)]
@@ -145,6 +250,21 @@ class Names(unittest.TestCase):
         for name, node in nodes(ast.Name):
             if hasattr(builtins, node.id):
                 self.assertIn(node.id, BUILTINS, (name, node.lineno))
+
+    def test_each_top_name_is_bound_once_and_by_no_local(self):
+        for name, tree in trees():
+            top = bound_at_top(tree)
+            self.assertEqual(len(top), len(set(top)), name)
+            inner = [node.arg for node in ast.walk(tree) if isinstance(node, ast.arg)]
+            for part in ast.walk(tree):
+                if isinstance(part, ast.FunctionDef):
+                    inner += [node.id for node in ast.walk(part)
+                              if isinstance(node, ast.Name) and isinstance(node.ctx, ast.Store)]
+            self.assertEqual(set(top) & set(inner), set(), name)
+
+    def test_names_that_are_not_used(self):
+        for name, node in nodes(ast.Name):
+            self.assertNotIn(node.id, NOT_USED | {"set", "frozenset", "chr"}, (name, node.lineno))
 
     def test_attributes(self):
         known = METHODS | stored_values() | own_methods()

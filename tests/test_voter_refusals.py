@@ -4,16 +4,7 @@ import unittest
 
 from midvalue.errors import BadSettings, BadStep, NoSensor
 from midvalue.voters import Voter
-from tests.helpers import after, look, settings
-
-BOUNDS = ((3, 9), (0, 1000000), (1, 1000000), (1, 1000), (1, 1000))
-FAR = 1000000000
-
-
-def with_setting(place, number):
-    chosen = list(settings())
-    chosen[place] = number
-    return tuple(chosen)
+from tests.helpers import BOUNDS, FAR, after, look, settings, with_setting
 
 
 def stirred():

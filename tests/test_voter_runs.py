@@ -1,51 +1,11 @@
 """[31], [32]: what holds of all runs, over longer runs with sensors that lie; and [22] to [24] told anew."""
 
 import random
-import statistics
 import unittest
 
 from midvalue.voters import Voter
-from tests.helpers import counts, look, settings, states
-
-RUNS = 150
-STEPS = 120
-
-
-def some_settings(chance):
-    return (chance.randint(3, 9), chance.choice((0, 1, 5, 20)), chance.choice((1, 3, 50, 1000000)),
-            chance.choice((1, 2, 3, 7)), chance.choice((1, 2, 3, 7)))
-
-
-def some_thing(chance, truth, how):
-    """What a sensor says: near the truth, far off, just beside it, or nothing, by how it lies."""
-    if chance.randrange(100) >= how:
-        return truth + chance.randint(-3, 3)
-    return chance.choice((None, None, truth + 21, truth - 21, truth + 5, truth + chance.randint(-500, 500)))
-
-
-def some_run(chance, many):
-    """Steps in which each sensor lies for a while, now more, now less; at times none says anything."""
-    truth = chance.randint(-100, 100)
-    how = [chance.choice((0, 10, 60, 100)) for place in range(many)]
-    for number in range(STEPS):
-        truth += chance.randint(-4, 4)
-        if chance.randrange(15) == 0:
-            how[chance.randrange(many)] = chance.choice((0, 0, 10, 60, 100))
-        if chance.randrange(20) == 0:
-            yield [truth if chance.randrange(6) == 0 else None for place in range(many)]
-        else:
-            yield [some_thing(chance, truth, how[place]) for place in range(many)]
-
-
-def value_of(numbers, near):
-    if not numbers:
-        return near
-    low, high = statistics.median_low(numbers), statistics.median_high(numbers)
-    return low if near - low <= high - near else high
-
-
-def is_near(thing, value, threshold):
-    return thing is not None and value - threshold <= thing <= value + threshold
+from tests.helpers import (
+    RUNS, STEPS, counts, honest, is_near, liar_runs, lie, look, settings, some_run, some_settings, states, value_of)
 
 
 class Told:
@@ -156,51 +116,30 @@ class AllRuns(unittest.TestCase):
 class Liars(unittest.TestCase):
     """More than half are right at each step; the others say what harms most, or anything."""
 
-    def runs(self, seed):
-        for number in range(RUNS):
-            chance = random.Random(seed * 1000 + number)
-            many = chance.randint(3, 9)
-            threshold = chance.choice((0, 1, 6, 20))
-            chosen = settings(many, threshold, misses=chance.choice((1, 2, 4)), backs=chance.choice((1, 2, 4)))
-            rights = sorted(chance.sample(range(many), many // 2 + 1))
-            yield chance, chosen, rights
-
-    def honest(self, chance, chosen, rights, truth):
-        """A step's things with the right ones within the threshold of one another, and the others None."""
-        values = [None] * chosen[0]
-        for place in rights:
-            values[place] = truth + chance.randint(0, chosen[1])
-        return values
-
-    def lie(self, chance, said, threshold):
-        return chance.choice((
-            None, min(said), max(said), min(said) - threshold, max(said) + threshold, min(said) - threshold - 1,
-            max(said) + threshold + 1, 1000000000, -1000000000, chance.randint(min(said), max(said))))
-
     def test_right_ones_never_disagree_and_hold_the_value(self):
-        for chance, chosen, rights in self.runs(11):
+        for chance, chosen, rights in liar_runs(11):
             truth = chance.randint(-1000, 1000)
             voter = Voter(chosen, truth)
             for number in range(STEPS):
                 truth += chance.randint(-50, 50)
-                values = self.honest(chance, chosen, rights, truth)
+                values = honest(chance, chosen, rights, truth)
                 said = [values[place] for place in rights]
                 for place in range(chosen[0]):
                     if place not in rights:
-                        values[place] = self.lie(chance, said, chosen[1])
+                        values[place] = lie(chance, said, chosen[1])
                 given = voter.step(values)[0]
                 self.assertTrue(min(said) <= given <= max(said))
                 for place in rights:
                     self.assertEqual((voter.state(place), voter.count(place)), ("good", 0))
 
     def test_far_off_or_silent_for_misses_steps_is_out(self):
-        for chance, chosen, rights in self.runs(12):
+        for chance, chosen, rights in liar_runs(12):
             truth = chance.randint(-1000, 1000)
             voter = Voter(chosen, truth)
             row = [0] * chosen[0]
             for number in range(STEPS):
                 truth += chance.randint(-50, 50)
-                values = self.honest(chance, chosen, rights, truth)
+                values = honest(chance, chosen, rights, truth)
                 low = min(values[place] for place in rights) - chosen[1]
                 high = max(values[place] for place in rights) + chosen[1]
                 for place in range(chosen[0]):
